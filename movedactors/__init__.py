@@ -1,0 +1,1 @@
+"""Actors whose code is changed while messages wait."""
