@@ -1,5 +1,6 @@
 """Checks that books, editions and changes have in common: each raises WrongPart for the first wrong part."""
 
+from movedactors.plain import path_of
 from movedactors.words import is_name
 
 
@@ -124,25 +125,30 @@ def check_terms(scope, terms, path, many, once):
 
 def check_placed(scope, placed, once):
     """Pairs of a term and its path."""
-    todo = placed[::-1]
+    todo = [(term, (None, path)) for term, path in placed[::-1]]
     seen = []
     while todo:
-        part, path = todo.pop()
-        if is_told(part, "var", 2):
-            require(part[1] in scope.variables, path + (1,))
-            require(part[1] not in seen, path)
-            if part[1] in once:
-                seen.append(part[1])
-        else:
-            check_made(scope, part, path)
-            todo.extend([(part[2][k], path + (2, k)) for k in reversed(range(len(part[2])))])
+        part, link = todo.pop()
+        wrong = wrong_in_part(scope, part, seen)
+        if wrong is not None:
+            raise WrongPart(path_of((link, wrong)))
+        if part[0] == "of":
+            todo.extend([(part[2][k], (link, (2, k))) for k in reversed(range(len(part[2])))])
+        elif part[1] in once:
+            seen.append(part[1])
 
 
-def check_made(scope, part, path):
-    """A term that is no variable, without its members."""
-    require(is_told(part, "of", 3), path)
-    require(is_key(scope.counts, part[1]), path + (1,))
-    require(is_row(part[2], scope.counts[part[1]]), path + (2,))
+def wrong_in_part(scope, part, seen):
+    """The path in a part of a term, which may be anything, of what is wrong in it but for its terms, or None."""
+    if is_told(part, "var", 2):
+        if part[1] not in scope.variables:
+            return (1,)
+        return () if part[1] in seen else None
+    if not is_told(part, "of", 3):
+        return ()
+    if not is_key(scope.counts, part[1]):
+        return (1,)
+    return None if is_row(part[2], scope.counts[part[1]]) else (2,)
 
 
 def check_filled(scope, row, path, fields, once):

@@ -1,4 +1,4 @@
-"""Equality of plain values."""
+"""Equality of plain values, and the paths of their parts."""
 
 
 def is_same_value(one, other):
@@ -13,3 +13,15 @@ def is_same_value(one, other):
         elif left != right:
             return False
     return True
+
+
+def path_of(link):
+    """The path of a part, told by a pair of the link of the part around it, or None, and the steps from there.
+
+    Links are as long as paths only where one is asked for: making all paths of a deep term would take too long.
+    """
+    pieces = []
+    while link is not None:
+        link, steps = link
+        pieces.append(steps)
+    return tuple([k for steps in pieces[::-1] for k in steps])

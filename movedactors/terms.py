@@ -1,5 +1,6 @@
 """Terms: their parts, their measures, and putting in."""
 
+from movedactors.plain import path_of
 from movedactors.words import is_number, is_word
 
 
@@ -15,13 +16,13 @@ def is_variable(thing):
 def wrong_part(primitives, thing):
     """The path of the first wrong part of something, which may be anything, or None if it is a term."""
     counts = dict(primitives)
-    todo = [(thing, ())]
+    todo = [(thing, None)]
     while todo:
-        part, path = todo.pop()
+        part, link = todo.pop()
         if is_made(counts, part):
-            todo.extend([(part[2][k], path + (k,)) for k in reversed(range(len(part[2])))])
+            todo.extend([(part[2][k], (link, (k,))) for k in reversed(range(len(part[2])))])
         elif not is_plain_variable(part):
-            return path
+            return path_of(link)
     return None
 
 
