@@ -2,7 +2,10 @@
 
 
 def is_same_value(one, other):
-    """Whether two values of tuples, strings, integers and truth values are equal, however deep they are nested."""
+    """Whether two values of tuples, strings, integers and truth values are equal, however deep they are nested.
+
+    One of them may be anything. A truth value is no number here.
+    """
     todo = [(one, other)]
     while todo:
         left, right = todo.pop()
@@ -10,7 +13,7 @@ def is_same_value(one, other):
             if len(left) != len(right):
                 return False
             todo.extend(list(zip(left, right)))
-        elif left != right:
+        elif isinstance(left, bool) != isinstance(right, bool) or left != right:
             return False
     return True
 
