@@ -42,7 +42,7 @@ class Settling:
         self._events.append(("out", address, why))
         for pair in system.links():
             other = other_member(pair, address)
-            if other is not None and system.is_in(other):
+            if system.is_in(other):
                 if system.heeds(other):
                     self._tell(address, other, message)
                 elif why != "ended":
@@ -152,7 +152,7 @@ def sweepers(system, address):
         found[member] = sweeper
         for pair in links:
             other = other_member(pair, member)
-            if other is not None and system.is_in(other) and not system.heeds(other):
+            if system.is_in(other) and not system.heeds(other):
                 waiting.append((other, member))
     return found
 
@@ -212,7 +212,6 @@ def holds_around(system, address, other, members):
     for pair in system.links():
         for member in pair:
             outer = other_member(pair, member)
-            if member in members and outer is not None and outer not in members:
-                if system.is_in(outer) and not system.heeds(outer):
-                    return False
+            if member in members and outer not in members and system.is_in(outer) and not system.heeds(outer):
+                return False
     return True

@@ -377,6 +377,12 @@ class Several(Case):
         open_choices(one).clear()
         self.assertEqual(len(open_choices(one)), 16)
 
+    def test_a_chain_of_one_edition(self):
+        one = lone()
+        make_all(one, [("post", 3, ASK), ("post", 3, ASK), ("bring", 0, 3)])
+        self.assertEqual(open_choices(one), [("bring", 0, 3), ("take", 3, "side")])
+        self.made(one, ("kill", 8, "ended"), ("out", 8, "ended"), now8="ended")
+
     def test_open_choices_are_all_that_can_be_made(self):
         chosen = random.Random(5)
         for _ in range(15):

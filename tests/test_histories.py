@@ -392,6 +392,25 @@ class Parted(unittest.TestCase):
         self.assertEqual(len(parted(less, ("cell", ("red",), (RED,)), [])[3]), 2)
         self.check(less, ("cell", ("red",), (RED,)), [])
 
+    def test_terms_of_an_end_that_one_code_alone_has(self):
+        """The old code goes on, and its terms differ, where the new one stops; and the other way round."""
+        text = """
+            edition {
+                kind put main () (a);
+                role r {
+                    mode m () (x, y) [main];
+                    start () () { go m () (self, self); }
+                    on m put { go m () (up(a), pair(a, a)); }
+                }
+            }
+        """
+        stops = text.replace("go m () (up(a), pair(a, a));", "stop;")
+        for old, new in ((text, stops), (stops, text)):
+            one = read_change(read_edition(BOOK, old), read_edition(BOOK, new), """
+                change { kind put to put () (a); role r to r () (); }
+            """)
+            self.check(Joint(one), ("r", (), (("put", ()),)), [])
+
     def test_slots_with_great_addresses(self):
         one = joined().change()
         editions = []

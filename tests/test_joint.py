@@ -241,6 +241,15 @@ class Meetings(unittest.TestCase):
         self.place("makes", "put", ("red",), ("make m unit ($q) (x, e); make n kid () ();",
             "make n kid () (); make m unit ($q) (x, e);"), goes=True)
 
+    def test_names_with_equal_words(self):
+        """Roles and kinds count, also where the words are the same."""
+        kin = ("role kid {", "role kin { mode only () () []; start () () { go only () (); } } role kid {")
+        self.place("makes", "put", ("red",), kin, ("make n kid () ();", "make n kin () ();"), goes=True)
+        extra = (("kind query side () (u);", "kind query side () (u); kind extra main () (u);"),
+                 ("on rest say if", "on rest extra { stop; } on rest say if"))
+        self.place(None, "put", ("green",), *extra)
+        self.place("sends", "put", ("green",), *extra, ("send e query () (x);", "send e extra () (x);"))
+
     def test_links_and_watches(self):
         self.place("links", "put", ("red",), ("link m;", ""), goes=True)
         self.place("links", "put", ("red",), ("link m;", "link m; link m;"), goes=True)

@@ -107,6 +107,21 @@ class Fitting(unittest.TestCase):
         ):
             self.assertIs(fits(one, "cell", spoilt(0, *equations)), False, equations)
 
+    def test_wrong_equations_that_hold(self):
+        """All else is right: the equations hold at the beginning and follow behind the arrivals."""
+        y, x = SAME
+        for equations in ((y, x, (("old", "y"), new("y"))), (y, x, x), (y, x, (("new", "x"), new("x")))):
+            self.assertIs(fits(joined(), "cell", spoilt(0, *equations)), False)
+        one = joined(("go rest (green) (x, y);", "go rest (green) (e, y);"))
+        paper = EMPTY[:1] + PAPER[1:2] + ((idle("green"), ((("new", "y"), fld("a")),)),)
+        self.assertEqual(one.meeting(idle("red"), "put", ("red",))[2][1][2], fld("a"))
+        self.assertIs(fits(one, "cell", paper), False)
+        one = joined(("go rest (green) (x, y);", "go rest (green) (up(m), y);"))
+        paper = paper[:2] + ((idle("green"), ((("new", "y"), of("up", kid("k"))),)),)
+        self.assertEqual(one.meeting(idle("red"), "put", ("red",))[2][1][2], of("up", kid("k")))
+        self.assertIs(fits(one, "cell", paper), False)
+        self.assertIs(fits(one, "cell", EMPTY[:1] + PAPER[1:2] + EMPTY[2:]), True)
+
     def test_terms(self):
         for term in (of("none", old("y")), of("up"), of("up", old("y"), old("y")), ("of", "up", [old("y")]), list(old("y")),
                      ("var", ["old", "y"]), ("old", "y"), ("var", ("old", "y"), 1), of("pair", old("y"), 1), True, 0):

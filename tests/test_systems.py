@@ -230,6 +230,8 @@ class Asked(unittest.TestCase):
         made.put_out(6, "bad")
         self.assertEqual(made.next_address(), 10)
         self.assertEqual(lone().next_addresses(3), [4, 6, 7])
+        empty = System(MEANING, [Edition(FIRST.book(), [], [], ())], [], [], [])
+        self.assertEqual((empty.next_address(), empty.next_addresses(2)), (1, [1, 2]))
         self.assertEqual(lone(supply=[6]).next_addresses(3), [6, 4, 7])
 
     def test_place(self):
@@ -380,6 +382,12 @@ class Changing(unittest.TestCase):
         self.assertEqual(made.empty_queues(3), [])
         self.assertEqual(made.queue(1, "main"), [M2])
 
+    def test_a_chain_of_one_edition(self):
+        one = lone()
+        one.put_in_queue(1, "gone", M3)
+        self.assertEqual((one.queue(1, "gone"), one.empty_queues(1), one.queue(1, "gone")), ([M3], [M3], []))
+        self.assertEqual((one.heeds(1), one.team("low"), one.beginning()), (True, (0, 0, False), lone()))
+
     def test_off_a_road(self):
         made = system()
         for receiver, message in ((1, M1), (0, M2), (1, M3), (0, M1)):
@@ -440,6 +448,26 @@ class Equality(unittest.TestCase):
         self.assertEqual(other, system(supply=()))
         self.assertNotEqual(other.beginning(), system(supply=()).beginning())
 
+        one, other = system(), system()
+        one.put_out(1, "bad")
+        for each in (one, other):
+            each.renew(1, (0, "kid", (), ()))
+        self.assertEqual(one, other)
+
+    def test_twin_of_all_that_can_differ_from_the_beginning(self):
+        one = system()
+        one.renew(1, (1, "kid", (), ()))
+        one.born((0, "kid", (), ()))
+        one.put_state(5, 1, (("kid", "only", ()), ()))
+        one.put_out(3, "worse")
+        other = one.twin()
+        self.assertEqual(other, one)
+        self.assertEqual(standing(other), standing(one))
+        other.renew(3, (0, "kid", (), ()))
+        other.born((0, "kid", (), ()))
+        self.assertEqual((one.why(3), one.lives(3), one.supply(), one.addresses()), (
+            "worse", 1, [4], [1, 2, 3, 5, 8, 20]))
+
     def test_order_counts(self):
         for put in (lambda s, k: s.put_link(1, k), lambda s, k: s.put_watch(1, k), lambda s, k: s.put_on_road(0, k, M1),
                     lambda s, k: s.put_said(k, M1), lambda s, k: s.put_in_queue(1, "main", M1[:3] + ((k,),))):
@@ -451,6 +479,8 @@ class Equality(unittest.TestCase):
 
     def test_other_chains_and_meanings(self):
         self.assertNotEqual(System(Meaning({}), [FIRST], [], [], ACTORS), lone())
+        empty = Edition(FIRST.book(), [], [], ())
+        self.assertNotEqual(System(Meaning({}), [empty], [], [], []), System(MEANING, [empty], [], [], []))
         self.assertNotEqual(System(MEANING, [FIRST, SECOND], [TO_SECOND], [], ACTORS), lone())
         self.assertNotEqual(
             System(MEANING, [FIRST, SECOND], [TO_SECOND.with_rows([])], [], ACTORS),

@@ -10,6 +10,7 @@ from movedactors.handling import next_stand
 from movedactors.meanings import Meaning, value_of
 from movedactors.walks import is_possible, lived, valued, walked
 from samples import SELF, anythings, given, nested, new_edition, of, old_edition, var
+from test_edges import ring_edition
 from world import BOOK, FIRST, MEANING, SECOND, THIRD
 
 RED = ("cell", ("red",))
@@ -59,6 +60,13 @@ class Possible(unittest.TestCase):
             self.told((end, end), False)
             self.told((PUT, end, ASK), False)
 
+    def test_words_of_the_control(self):
+        """Which edge a step has is told by the words that the steps before it led to, too."""
+        to = [("to", (word,)) for word in ("red", "green", "blue")]
+        for steps, answer in (((to[0], to[0]), True), ((to[2], to[0]), False), ((to[1], to[2], ("by", ("bad", "big"))), True),
+                              ((to[1], to[2], to[0]), False), ((to[0], to[1], to[1], ("by", ("ended", "big"))), True)):
+            self.told(steps, answer, ring_edition(), ("r", ("small",)))
+
     def test_kinds_that_are_not_taken(self):
         for steps in ((ASK,), (PUT, ASK), (BOTH, PUT), (BOTH, ENDED), (BOTH, BOTH)):
             self.told(steps, False)
@@ -102,7 +110,8 @@ class Possible(unittest.TestCase):
         """A chosen history is possible; one with a step exchanged is possible if its walk can be made."""
         chosen = random.Random(5)
         for k in range(200):
-            edition, role = chosen.choice([(FIRST, "cell"), (SECOND, "box"), (THIRD, "box"), (old_edition(), "cell")])
+            edition, role = chosen.choice([
+                (FIRST, "cell"), (SECOND, "box"), (THIRD, "box"), (old_edition(), "cell"), (ring_edition(), "r")])
             role, words, steps = chosen_history(chosen, edition, role, 6)
             self.assertIs(is_possible(edition, (role, words, steps)), True)
             kind = chosen.choice(edition.kinds())
