@@ -2,12 +2,12 @@
 
 from movedactors.errors import BadPaper
 from movedactors.meanings import unlike
-from movedactors.meetings import both_deeds, deed_terms, is_same_pair
+from movedactors.meetings import both_deeds, deed_terms
 from movedactors.parts import is_row
 from movedactors.plain import is_same_value
 from movedactors.raising import changed_message, changed_start, raised_deeds
 from movedactors.shapes import is_filled, is_start, is_words
-from movedactors.terms import folded
+from movedactors.terms import folded, put_in
 
 LOW_THINGS = 100
 
@@ -113,7 +113,8 @@ def unlike_place(joint, history):
     if place is not None:
         return place
     for demand in demands:
-        if not is_same_pair(walk.walked(last, demand)):
+        one, other = walk.walked(last, demand)
+        if not is_same_value(one, other):
             return "terms"
     return None
 
@@ -139,11 +140,7 @@ def row_terms(joint, walk, terms):
     (old, new), held = walk.position(walk.many())
     variables = joint.variables((old, new))
     table = {("register", name): term for (word, name), term in zip(variables, held) if word == "old"}
-    return tuple([folded(
-        term,
-        lambda part: table.get(part[1], part),
-        lambda part, members: ("of", part[1], members),
-    ) for term in terms])
+    return tuple([put_in(term, table) for term in terms])
 
 
 def raised_life(meaning, change, life):

@@ -6,8 +6,7 @@ from movedactors.handling import first_stand
 from movedactors.meetings import joint_variables, met_at, terms_of
 from movedactors.parts import is_row
 from movedactors.raising import start_terms
-
-SELF = ("var", ("self",))
+from movedactors.walks import SELF
 
 
 class Joint:

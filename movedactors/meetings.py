@@ -3,10 +3,8 @@
 from movedactors.controls import takes
 from movedactors.edges import edge_at
 from movedactors.handling import behind_deeds, child_table, edge_table, put_edge
-from movedactors.plain import is_same_value
 from movedactors.raising import changed_terms, raised_deeds
-
-SELF = ("var", ("self",))
+from movedactors.walks import SELF
 
 
 def held_variables(edition, control, word):
@@ -103,8 +101,3 @@ def deed_terms(deeds):
         found.append(send[0])
         found.extend(send[3])
     return found
-
-
-def is_same_pair(pair):
-    """Whether the two terms of a pair are the same term."""
-    return is_same_value(pair[0], pair[1])
