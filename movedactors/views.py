@@ -108,8 +108,7 @@ def twin_begun(system):
     begun = system.beginning()
     newest = system.newest()
     actors = [(address,) + raised_birth(begun, begun.birth(address), newest) for address in begun.addresses()]
-    chain = (system.editions(), system.changes())
-    return System(system.meaning(), chain[0], chain[1], begun.supply(), actors, first=newest)
+    return System(system.meaning(), system.editions(), system.changes(), begun.supply(), actors, first=newest)
 
 
 def twin_of(system):
