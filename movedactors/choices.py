@@ -5,9 +5,9 @@ from movedactors.errors import NotNow
 from movedactors.firsts import is_address
 from movedactors.going import settled
 from movedactors.handling import count_makes, next_state
-from movedactors.meanings import value_of
 from movedactors.parts import is_told
 from movedactors.reading import is_message, read
+from movedactors.squares import moved_state
 from movedactors.supervisors import names_of
 from movedactors.words import is_number
 
@@ -15,7 +15,7 @@ from movedactors.words import is_number
 def can(system, choice):
     """Whether a choice, which may be anything, can be made."""
     if is_told(choice, "move", 2):
-        return moved_state(system, choice[1]) is not None
+        return state_ahead(system, choice[1]) is not None
     if is_told(choice, "shift", 2):
         return can_shift(system, choice[1])
     if not isinstance(choice, tuple) or len(choice) != 3:
@@ -58,20 +58,15 @@ def next_read(system, address, port):
     return read(system, number, messages[0]) if messages else None
 
 
-def moved_state(system, address):
+def state_ahead(system, address):
     """The state to which an actor would move, or None if it cannot move."""
     if not system.is_in(address) or system.edition(address) == system.newest():
         return None
     change = system.changes()[system.edition(address)]
-    control, things = system.state(address)
-    row = change.row(control)
-    if row is None:
+    state = system.state(address)
+    if change.row(state[0]) is None:
         return None
-    role, mode, _ = control
-    table = {("register", x): thing for x, thing in zip(change.old().mode(role, mode)[2], things)}
-    table[("self",)] = address
-    moved = tuple([value_of(system.meaning(), term, table) for term in row[3]])
-    return ((change.of_role(role)[1], row[1], row[2]), moved)
+    return moved_state(system.meaning(), change, state, address)
 
 
 def make(system, choice):
@@ -122,7 +117,7 @@ def bring(system, sender, receiver):
 def move(system, address):
     """Moves an actor to the next edition."""
     number = system.edition(address) + 1
-    state = moved_state(system, address)
+    state = state_ahead(system, address)
     system.put_state(address, number, state)
     return (("moved", number, state),)
 

@@ -4,6 +4,7 @@ from movedactors.controls import is_control, is_marking, markings, starts
 from movedactors.errors import NotNow, NotThere
 from movedactors.handling import first_stand
 from movedactors.meetings import joint_variables, met_at, terms_of
+from movedactors.nodes import Nodes
 from movedactors.parts import is_row
 from movedactors.raising import start_terms
 from movedactors.walks import SELF
@@ -13,12 +14,13 @@ class Joint:
     """The joint controls of a change.
 
     What was found out is kept: for each role that was asked for the table of its reached joint controls, with
-    how the first one leads to each, and what happens at arrivals.
+    how the first one leads to each, the table of all that leads to them, and what happens at arrivals.
     """
 
     def __init__(self, change):
         self._change = change
         self._tables = {}
+        self._leading = {}
         self._meetings = {}
 
     def change(self):
@@ -61,6 +63,27 @@ class Joint:
                 todo = coming
             self._tables[role] = found
         return self._tables[role]
+
+    def leading(self, role):
+        """The table of what leads to each reached joint control of a role: a list of tuples (pair, arrival, terms).
+
+        Of the arrivals at a joint control that lead to the same one with the same terms there is the first one.
+        """
+        self._change.old().role(role)
+        if role not in self._leading:
+            found = {pair: [] for pair in self._table(role)}
+            nodes = Nodes()
+            for pair in self._table(role):
+                seen = {}
+                for arrival in self._arrivals(pair):
+                    going = self._met(pair, arrival)[2]
+                    if going is not None:
+                        seen.setdefault((going[0], nodes.numbers(going[1])), (arrival, going[1]))
+                for (follower, _), (arrival, terms) in seen.items():
+                    found[follower].append((pair, arrival, terms))
+            self._leading[role] = found
+        table = self._leading[role]
+        return {pair: table[pair] for pair in table}
 
     def _arrivals(self, pair):
         old = self._change.old()

@@ -46,6 +46,10 @@ class Nodes:
             lambda part, members: self.of_key(("of", part[1], members)),
         )
 
+    def numbers(self, terms):
+        """The tuple of the numbers of terms."""
+        return tuple([self.number(term) for term in terms])
+
 
 def root_of(links, number):
     """The last node to which links lead from a node. Links that are gone along become shorter."""

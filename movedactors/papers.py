@@ -3,7 +3,7 @@
 from movedactors.parts import is_row
 from movedactors.plain import is_same_value
 from movedactors.solved import Solved
-from movedactors.terms import put_in, variables, wrong_part
+from movedactors.terms import put_in, wrong_part_over
 
 SELF_VARIABLE = ("self",)
 
@@ -41,7 +41,7 @@ def are_equations(joint, pair, equations):
         free.remove(variable)
     primitives = joint.change().old().book().primitives()
     for _, term in equations:
-        if wrong_part(primitives, term) is not None or not all([part in free for part in variables(term)]):
+        if wrong_part_over(primitives, free, term) is not None:
             return False
     return True
 
@@ -103,10 +103,15 @@ def shows_row(joint, row, paper):
 def follows_row(joint, table, pair, terms):
     """Whether each register of the new control is the term of a row for it, by the equations of a paper."""
     solved = solved_at(joint, table, pair)
+    return all([solved.holds(one, other) for one, other in row_equations(joint, pair, terms)])
+
+
+def row_equations(joint, pair, terms):
+    """The list of the equations that hold at a joint control if the terms of a row are right there."""
     known = joint.variables(pair)
     olds = {("register", x): ("var", (word, x)) for word, x in known if word == "old"}
     news = [("var", variable) for variable in known if variable[0] == "new"]
-    return all([solved.holds(new, put_in(term, olds)) for new, term in zip(news, terms)])
+    return [(new, put_in(term, olds)) for new, term in zip(news, terms)]
 
 
 def shows_alike(joint, role, paper):

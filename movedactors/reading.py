@@ -48,13 +48,20 @@ def elder_forms(system, message):
         return [(number,) + message[1:]]
     change = system.changes()[number]
     found = []
+    for kind, words in elder_heads(change, message[1], message[2]):
+        names = change.old().kind(kind)[3]
+        found.append((number, kind, words, elder_things(names, change.of_kind(kind)[3], message[3])))
+    return found
+
+
+def elder_heads(change, kind, words):
+    """The list of the pairs (kind, marking) of the elder forms that messages of a new kind with these words have."""
+    found = []
     for row in change.kinds():
-        _, _, marks, names = change.old().kind(row[0])
-        if row[1] == message[1] and is_undone(row[3]):
-            things = elder_things(names, row[3], message[3])
-            for words in markings(change.old().book(), marks):
-                if words_by_row(row, marks, words) == message[2]:
-                    found.append((number, row[0], words, things))
+        if row[1] == kind and is_undone(row[3]):
+            marks = change.old().kind(row[0])[2]
+            olds = markings(change.old().book(), marks)
+            found.extend([(row[0], marking) for marking in olds if words_by_row(row, marks, marking) == words])
     return found
 
 

@@ -15,13 +15,23 @@ def is_variable(thing):
 
 def wrong_part(primitives, thing):
     """The path of the first wrong part of something, which may be anything, or None if it is a term."""
+    return first_wrong_part(primitives, thing, lambda part: is_plain_variable(part))
+
+
+def wrong_part_over(primitives, known, thing):
+    """The path of the first wrong part of something, where a variable that is none of the known ones is wrong, too."""
+    return first_wrong_part(primitives, thing, lambda part: is_plain_variable(part) and part[1] in known)
+
+
+def first_wrong_part(primitives, thing, is_right_variable):
+    """The path of the first part that is neither made as due nor a variable that is right, or None."""
     counts = dict(primitives)
     todo = [(thing, None)]
     while todo:
         part, link = todo.pop()
         if is_made(counts, part):
             todo.extend([(part[2][k], (link, (k,))) for k in reversed(range(len(part[2])))])
-        elif not is_plain_variable(part):
+        elif not is_right_variable(part):
             return path_of(link)
     return None
 

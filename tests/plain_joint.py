@@ -270,3 +270,29 @@ def almost_renamed(chosen, mistakes, makes=True):
 def some_changes(seed, many, mistakes=(0, 1, 1, 2, 3)):
     chosen = random.Random(seed)
     return [almost_renamed(chosen, chosen.choice(mistakes)) for _ in range(many)]
+
+
+def bound(joint, role):
+    """T: the sum of one more than the number of variables over the reached joint controls of a role."""
+    return sum(1 + len(joint.variables(pair)) for pair in joint.pairs(role))
+
+
+def open_histories(change, role, most):
+    """The open histories of a role with at most so many steps, the shorter ones first.
+
+    Of those behind which the codes stand the same way, with all fields and children alike, there is one.
+    """
+    found = [(role, words, ()) for words in starts(change.old(), role)]
+    level = found
+    for _ in range(most):
+        coming, seen = [], set()
+        for history in level:
+            for arrival in arrivals(change, Together(change, history).last()[0]):
+                longer = history[:2] + (history[2] + (arrival,),)
+                walk = Together(change, longer)
+                if walk.is_open() and repr(walk.last()) not in seen:
+                    seen.add(repr(walk.last()))
+                    coming.append(longer)
+        found = found + coming
+        level = coming
+    return found

@@ -1,5 +1,7 @@
 """Random editions, editions that are renamed, the changes that lead to these, and systems that run them."""
 
+import random
+
 from movedactors.changes import Change
 from movedactors.editions import Edition
 from movedactors.meanings import Meaning
@@ -370,3 +372,77 @@ def running(chosen, many=2, makes=True, first=0, states=False):
     supply = chosen.sample(range(20, 40), chosen.randrange(4))
     meaning = chosen.choice([MEANING, fuzzy_meaning(chosen)])
     return System(meaning, editions, changes, supply, random_rows(chosen, editions, states=states), first=first)
+
+
+class Remembering:
+    """An edition whose modes keep one more register than those of another one, which nothing shows."""
+
+    def __init__(self, chosen, edition):
+        self.chosen = chosen
+        self.old = edition
+        self.more = {(role[0], mode[0]): chosen.randrange(3) > 0 for role in edition.roles() for mode in role[1]}
+        self.roles = tuple(self.role(role) for role in edition.roles())
+
+    def role(self, role):
+        name, modes, (marks, things, body), handlers = role
+        new_modes = tuple(mode[:2] + (mode[2] + ("w",) * self.more[(name, mode[0])],) + mode[3:] for mode in modes)
+        start = (marks, things, self.body(name, body, things + ("self",), ()))
+        found = []
+        for mode, kind, handler in handlers:
+            once = self.old.mode(name, mode)[2] + ("w",) * self.more[(name, mode)]
+            fields = self.old.kind(kind)[3]
+            found.append((mode, kind, self.body(name, handler, fields + ("self",), once)))
+        return (name, new_modes, start, tuple(found))
+
+    def body(self, role, body, free, once):
+        if body[0] == "if":
+            return body[:3] + (self.body(role, body[3], free, once), self.body(role, body[4], free, once))
+        end = body[5]
+        if end[0] != "go" or not self.more[(role, end[1])]:
+            return body
+        left = [name for name in once if not any(stands_in(name, told) for told in end[3])]
+        free = free + tuple(make[0] for make in body[1])
+        return body[:5] + (end[:3] + (end[3] + (self.term(free, left),),),)
+
+    def term(self, free, left):
+        names = left if left and self.chosen.randrange(3) else free
+        told = ("var", self.chosen.choice(names)) if names else ("of", "nil", ())
+        return ("of", "up", (told,)) if self.chosen.randrange(3) == 0 else told
+
+    def change(self):
+        """The change to this edition, with some rows, right or not."""
+        kinds, roles = same_rows(self.old)
+        return Change(self.old, Edition(BOOK, self.old.kinds()[:-1], self.roles, self.old.tree()), kinds, roles, self.rows())
+
+    def rows(self):
+        found = []
+        for role in self.old.roles():
+            for mode in role[1]:
+                words_of = [SORTS[sort] for _, sort in mode[1]]
+                for marking in [(word,) for word in words_of[0]] if words_of else [()]:
+                    terms = [("var", ("register", x)) for x in mode[2]]
+                    if self.more[(role[0], mode[0])]:
+                        terms.append(self.chosen.choice(terms + [("var", ("self",)), ("of", "nil", ())]))
+                    if self.chosen.randrange(3) == 0:
+                        found.append(((role[0], mode[0], marking), mode[0], marking, tuple(terms)))
+        return found
+
+
+def stands_in(name, told):
+    """Whether a variable stands in a term."""
+    return told == ("var", name) or (told[0] == "of" and any(stands_in(name, member) for member in told[2]))
+
+
+def same_rows(edition):
+    """The kinds and the roles of a change from an edition to one with the same kinds and starts."""
+    kinds = [(kind[0], kind[0], tuple(("mark", name) for name, _ in kind[2]), tuple(("var", ("field", x)) for x in kind[3]))
+             for kind in edition.kinds()[:-1]]
+    roles = [(role[0], role[0], tuple(("mark", name) for name, _ in role[2][0]),
+              tuple(("var", ("given", x)) for x in role[2][1])) for role in edition.roles()]
+    return kinds, roles
+
+
+def remembering(seed, many, makes=True):
+    """Changes whose roles are alike, and whose new editions keep what the old ones may have forgotten."""
+    chosen = random.Random(seed)
+    return [Remembering(chosen, Maker(chosen, makes=makes).edition()).change() for _ in range(many)]

@@ -74,6 +74,19 @@ INTERFACE = {
     "joint": "Joint: change begun pairs variables arrivals heeds meeting history_of",
     "histories": "together unlike_place fails raised_life parted",
     "papers": "fits shows_row shows_alike",
+    "obligations": "decide_role decide_row whole_paper",
+    "defining": "holders fitted is_fitting",
+    "refusals": "lost stands",
+    "derived": "met derived derived_rows",
+    "ranks": "rank ranks open_ports",
+    "traps": "trapped judge_trap standing",
+    "endings": "weight weights endless easing_ports judge_weights judge_endless",
+    "closing": "closing greatest_change",
+    "chains": "composed turned",
+    "alike": "differences are_alike part_trees judge_trees is_closed",
+    "squares": "is_total moved_state square",
+    "rolling": "rolling moved_view part_role judge_role part_supervisor judge_supervisor",
+    "converse": "part_change judge_change",
 }
 
 
@@ -278,7 +291,9 @@ class Language(unittest.TestCase):
         for path, tree in trees():
             for node in ast.walk(tree):
                 if isinstance(node, ast.ExceptHandler):
-                    self.assertIn(node.type.id, ("WrongPart", "UnknownName"), path)
+                    caught = node.type.elts if isinstance(node.type, ast.Tuple) else [node.type]
+                    for one in caught:
+                        self.assertIn(one.id, ("WrongPart", "UnknownName", "BadPaper", "BadSystem", "NotNow"), path)
                 if isinstance(node, ast.Raise):
                     self.assertIsInstance(node.exc, ast.Call, path)
                     self.assertFalse(hasattr(builtins, node.exc.func.id), path)
