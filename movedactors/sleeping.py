@@ -32,7 +32,8 @@ def open_arrow(change, role):
 def first_supervisors(change):
     """The list of the first supervisors, in the order of the trees."""
     tree = change.old().tree()
-    known = [told[1] for told in differences(change) if told[0] != "start"]
+    # A difference of a start tells an address behind its word, which is no name.
+    known = [told[1] for told in differences(change)]
     known.extend([above(tree, address)[-1] for address in open_slots(change)])
     return [name for name in names_of(tree) if name in known]
 

@@ -6,6 +6,7 @@ from movedactors.errors import NotNow
 from movedactors.going import settled
 from movedactors.meanings import value_of
 from movedactors.raising import changed_start
+from movedactors.reading import raised
 from movedactors.squares import moved_state
 from movedactors.systems import System
 from movedactors.views import raised_log, seen_alike, twin_of
@@ -43,11 +44,9 @@ def tree_difference(change, meaning, kills):
 def seen(system):
     """What a moved view tells, gathered anew."""
     change = system.changes()[0]
-    newest = System(system.meaning(), system.editions(), [change], (), slot_actors(change, system.meaning()))
 
     def up(message):
-        from movedactors.reading import raised
-        return raised(newest, message, 1)
+        return raised(system, message, 1)
 
     actors = []
     for address in system.addresses():

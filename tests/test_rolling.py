@@ -122,18 +122,27 @@ class Rolling(Base):
         """The squares tell children, and the actor, apart, also within primitives and whatever their addresses are."""
         text = """
             edition { kind put main () (a);
-                      role r { mode m () (x) [main]; start () () { go m () (nil()); }
-                               on m put { make k r () (); make l r () (); send a put () (TERM); go m () (nil()); } }
+                      role r { mode m () (x) [main]; start () (i) { go m () (i); }
+                               on m put { make k r (a); make l r (a); link a; watch a; send a put (a); go m (a); } }
                       TREE }
-        """
-        trees = [""] + [f"supervisor top one 1 {{ {' '.join(f'slot {a} r () ();' for a in told)} }}" for told in (
-            (1,), (2,), (1, 3), (5, 2), (1, 2, 3, 4), (101, 102))]
+        """.replace("r (a);", "r () (MAKE);").replace("link a;", "link LINK;").replace("watch a;", "watch WATCH;").replace(
+            "send a put (a)", "send TO put () (PUT)").replace("go m (a)", "go m () (GO)")
+        places = ("MAKE", "LINK", "WATCH", "TO", "PUT", "GO")
+        trees = [""] + [f"supervisor top one 1 {{ {' '.join(f'slot {a} r () (nil());' for a in told)} }}" for told in (
+            (1,), (1, 3), (5, 2), (1, 2, 3, 4), (101, 102))]
         for tree in trees:
-            for one, other in (("up(k)", "up(l)"), ("up(self)", "up(k)"), ("up(l)", "up(self)"), ("pair(k, l)", "pair(l, k)"),
-                               ("k", "l"), ("up(up(k))", "up(up(l))"), ("pair(up(self), k)", "pair(up(l), k)")):
-                editions = [read_edition(BOOK, text.replace("TERM", term).replace("TREE", tree)) for term in (one, other)]
-                self.check(read_change(*editions, """
-                    change { kind put to put () (a); role r to r () (); row r m () to m () (x); }"""), ("r",), ())
+            for place in places:
+                for one, other in (("up(k)", "up(l)"), ("up(self)", "up(k)"), ("pair(k, l)", "pair(l, k)"), ("k", "l"),
+                                   ("pair(up(self), k)", "pair(up(l), k)")):
+                    editions = [self.placed(text.replace("TREE", tree), places, place, term) for term in (one, other)]
+                    self.check(read_change(*editions, """
+                        change { kind put to put () (a); role r to r () (i); row r m () to m () (x); }"""), ("r",), ())
+
+    def placed(self, text, places, place, term):
+        """The edition that has a term at one place, and the field at each other one."""
+        for name in places:
+            text = text.replace(name, term if name == place else "a", 2 if name == "MAKE" else 1)
+        return read_edition(BOOK, text)
 
     def test_arrows_of_controls_that_are_not_reached(self):
         old = read_edition(BOOK, """
