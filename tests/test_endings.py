@@ -3,16 +3,18 @@
 import random
 import unittest
 
+from movedactors.choices import can, make_all
 from movedactors.controls import started
 from movedactors.edges import arrows, reached
 from movedactors.endings import easing_ports, endless, judge_endless, judge_weights, weight, weights
 from movedactors.errors import NoControl
 from movedactors.ranks import open_ports, rank, ranks
 from movedactors.reader import read_change, read_edition
+from movedactors.systems import System
 from plain_joint import some_changes
 from samples import anythings, nested
 from test_ranks import NAMES, at, freed
-from world import BOOK
+from world import BOOK, MEANING
 
 # Each mode makes others: b two of c, c one of d beside itself becoming d; e makes itself anew for ever by one word.
 TEXT = """
@@ -249,6 +251,40 @@ def shows_an_end(change, value):
 def is_endless(change, value):
     return all(any(goal in value for goals in told_goals for goal in goals)
                for control in value for told_goals in left(change, control).values())
+
+
+class Runs(unittest.TestCase):
+    def test_takes_from_easing_ports(self):
+        """After at most as many takes as the weight nobody is in in the old edition who came of the actor."""
+        chosen = random.Random(185)
+        seen = {}
+        for one in some_changes(186, 60, (0, 1)) + [also("r.e"), also("r.d", "s.h"), also("r.e", "s.c")] * 3:
+            change = one.with_rows([row for row in one.rows() if chosen.randrange(3) == 0] or one.rows())
+            for control, number in weights(change):
+                seen[number] = True
+                self.lead_out(chosen, change, control, number)
+        self.assertLessEqual({1, 2, 3, 4, 5}, set(seen))
+
+    def lead_out(self, chosen, change, control, number):
+        old = change.old()
+        marks, given, _ = old.start(control[0])
+        row = (90, 0, control[0], tuple(old.book().words(sort)[0] for _, sort in marks), (1,) * len(given),
+               (control, (1,) * len(old.mode(*control[:2])[2])))
+        slots = [(slot[0], 1, role[0], tuple(old.book().words(sort)[0] for _, sort in role[2][0]), (1,) * len(role[2][1]))
+                 for slot in old.slots() for role in change.new().roles()[:1]]
+        system = System(MEANING, [old, change.new()], [change], [], slots + [row])
+        for _ in range(number + 1):
+            make_all(system, [("move", a) for a in system.addresses() if can(system, ("move", a))])
+            waiting = [a for a in system.addresses() if system.is_in(a) and system.edition(a) == 0]
+            if not waiting:
+                return
+            address = chosen.choice(waiting)
+            port = chosen.choice(easing_ports(change, system.state(address)[0]))
+            kind = chosen.choice([kind for kind in old.kinds() if kind[1] == port])
+            words = tuple(chosen.choice(old.book().words(sort)) for _, sort in kind[2])
+            make_all(system, [("post", address, (0, kind[0], words, (77,) * len(kind[3]))), ("bring", 0, address),
+                              ("take", address, port)])
+        self.fail((control, number))
 
 
 class Lists(unittest.TestCase):
